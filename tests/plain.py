@@ -30,6 +30,22 @@ def other(place, least, most, hidden):
     return [4, place, least, most, len(hidden)] + list(hidden)
 
 
+def safe(k, hidden):
+    return [5, k, len(hidden)] + list(hidden)
+
+
+def thin(k, hidden):
+    return [6, k, len(hidden)] + list(hidden)
+
+
+def best(k):
+    return [7, k]
+
+
+def text(hidden):
+    return [8, len(hidden)] + list(hidden)
+
+
 def ask(*calls):
     """The answers to the calls, on one new object, each as its own list."""
     flat = answers([number for call in calls for number in call])
@@ -171,3 +187,59 @@ def is_first(table, hidden, place, least, most, cells):
             return False
         bounds.pop(cell, None)
     return True
+
+
+def small_places(table, k):
+    return [place for place, amount in enumerate(with_margins(table)) if 1 <= amount < k]
+
+
+class SetSearch:
+    """What is told of a small table's sets, by a search through all tables with counts up to a bound.
+
+    Of the circles by which an other table differs from the table only those through the small place are
+    needed to bring 0 or k there, and these change no count by more than k.
+    """
+
+    def __init__(self, table, k):
+        self.amounts = with_margins(table)
+        self.small = small_places(table, k)
+        self.none = {place: set() for place in self.small}
+        self.many = {place: set() for place in self.small}
+        blank = blank_cells(table)
+        counts = range(max(table[2]) + k + 1)
+        for cells in product(*[[0] if place in blank else counts for place in cell_places(table)]):
+            his = with_margins(table, cells)
+            changed = frozenset(place for place, amount in enumerate(self.amounts) if his[place] != amount)
+            for place in self.small:
+                if his[place] == 0:
+                    self.none[place].add(changed)
+                elif his[place] >= k:
+                    self.many[place].add(changed)
+
+    def is_safe(self, place, hidden):
+        hidden = set(hidden)
+        return (
+            place in hidden
+            and any(changed <= hidden for changed in self.none[place])
+            and any(changed <= hidden for changed in self.many[place])
+        )
+
+    def unsafe(self, hidden):
+        return [place for place in self.small if not self.is_safe(place, hidden)]
+
+    def thin(self, hidden):
+        left = list(hidden)
+        for place in hidden:
+            fewer = [which for which in left if which != place]
+            if place not in self.small and not self.unsafe(fewer):
+                left = fewer
+        return left
+
+    def best(self):
+        places = range(len(self.amounts))
+        good = []
+        for kept in product((False, True), repeat=len(places)):
+            hidden = [place for place in places if kept[place]]
+            if set(self.small) <= set(hidden) and not self.unsafe(hidden):
+                good.append((len(hidden), sum(self.amounts[place] for place in hidden), hidden))
+        return min(good)[2]

@@ -1,10 +1,12 @@
 """Tables of 16 by 16 with large counts."""
 
 import random
+import time
 import unittest
 
-from plain import (GREAT_TOP, all_places, ask_of, can_move, cell_places, free_bounds, is_endless, is_first, is_other,
-                   other, range_of, with_margins)
+from plain import (GREAT_TOP, all_places, ask_of, begin, best, can_move, cell_places, free_bounds, is_endless,
+                   is_first, is_other, other, range_of, safe, small_places, text, thin, with_margins)
+from withheld.tables import answers
 
 
 def large_table(chance, blank_share=0.0):
@@ -111,6 +113,79 @@ class LargeTest(unittest.TestCase):
                 self.shown(table, place, own // 2, GREAT_TOP, hidden)
                 self.shown(table, place, 0, own, hidden)
                 self.shown(table, place, own, own + 5, hidden)
+
+
+class LargeGoodSetsTest(unittest.TestCase):
+    """safe and thin on tables of 16 by 16."""
+
+    def tables(self):
+        chance = random.Random(66)
+        kinds = [(lambda: 1, 10), (lambda: chance.randint(1, 5), 1000), (lambda: chance.randint(1, 999), 1000),
+                 (lambda: chance.choice([chance.randint(1, 9), chance.randint(1000, 9999)]), 1000),
+                 (lambda: chance.choice([0, 1, 5, 1000, 1000000]), 10), (lambda: int(chance.random() < 0.3), 10),
+                 (lambda: chance.choice([0, 1, 2, 1000000]), 2)]
+        for count, k in kinds:
+            yield (16, 16, [count() for cell in range(256)]), k
+        blanks = [int(chance.random() < 0.3) for cell in range(256)]
+        yield (16, 16, [0 if blank else chance.choice([0, 3, 1000]) for blank in blanks], blanks), 4
+
+    def is_unsafe(self, table, k, place, hidden):
+        told = ask_of(table, range_of(place, hidden))[0]
+        return place not in hidden or told[1] > 0 or (told[0] == 0 and told[2] < k)
+
+    def test_thinned_sets(self):
+        chance = random.Random(67)
+        for table, k in self.tables():
+            every = all_places(table)
+            smalls = small_places(table, k)
+            told = ask_of(table, safe(k, every), thin(k, every))
+            self.assertEqual(told[0], [1])
+            self.assertEqual(told[1][0], 0)
+            left = told[1][1:]
+            self.assertEqual(ask_of(table, safe(k, left), thin(k, left)), [[1], told[1]])
+            self.assertTrue(set(smalls) <= set(left))
+            spare = [place for place in left if place not in smalls]
+            for place in chance.sample(spare, min(6, len(spare))):
+                fewer = [which for which in left if which != place]
+                answer = ask_of(table, safe(k, fewer), thin(k, fewer))
+                self.assertEqual(answer[1], [-5])
+                self.assertEqual(answer[0][0], 0)
+                self.assertTrue(self.is_unsafe(table, k, answer[0][1], fewer))
+
+    def test_taken_by_the_call_safe(self):
+        chance = random.Random(68)
+        counts = [chance.choice([0, 1000, 2000, 5000]) for cell in range(256)]
+        for cell in chance.sample(range(256), 20):
+            counts[cell] = chance.randint(1, 900)
+        table = (16, 16, counts)
+        smalls = small_places(table, 1000)
+        left = cell_places(table)
+        for place in list(left):
+            fewer = [which for which in left if which != place]
+            if place not in smalls and ask_of(table, safe(1000, fewer)) == [[1]]:
+                left = fewer
+        self.assertEqual(ask_of(table, thin(1000, cell_places(table))), [[0] + left])
+
+    def test_long_lists_are_done_soon(self):
+        # What is waited for here is a few seconds; the bound is so wide that a slow machine keeps it.
+        start = time.monotonic()
+        for table, k in self.tables():
+            every = all_places(table)
+            calls = begin(*table) + (safe(k, every) + thin(k, every) + text(every)) * 4
+            self.assertEqual(answers(calls), answers(calls))
+        self.assertLess(time.monotonic() - start, 300)
+
+    def test_many_best_sets_are_found_soon(self):
+        chance = random.Random(69)
+        start = time.monotonic()
+        for turn in range(20):
+            calls = []
+            for pair in range(150):
+                rows, columns = chance.choice([(2, 3), (3, 2), (1, 5), (5, 1)])
+                counts = [chance.choice([0, 1, 9, 10, 1000000]) for cell in range(rows * columns)]
+                calls += begin(rows, columns, counts) + best(10)
+            self.assertEqual(answers(calls), answers(calls))
+        self.assertLess(time.monotonic() - start, 300)
 
 
 if __name__ == "__main__":

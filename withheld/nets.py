@@ -37,13 +37,23 @@ class Net:
     def set_free(self, place):
         tail = self.tails[place]
         head = self.heads[place]
-        self.lows[place] = 0
-        self.highs[place] = None
+        self.release(place)
         self.steps[tail].append((place, UP, head))
         self.steps[head].append((place, DOWN, tail))
 
+    def hold(self, place, least, most):
+        self.lows[place] = least
+        self.highs[place] = most
+
+    def release(self, place):
+        self.lows[place] = 0
+        self.highs[place] = None
+
     def is_free(self, place):
         return self.highs[place] is None
+
+    def go_to(self, amounts):
+        self.amounts = list(amounts)
 
     def room(self, place, way):
         if way == DOWN:
@@ -110,12 +120,59 @@ class Net:
             elif self.amounts[place] > most:
                 self.lows[place] = most
                 self.drive(place, DOWN)
-            self.lows[place] = least
-            self.highs[place] = most
+            self.hold(place, least, most)
         return least <= self.amounts[place] <= most
 
     # Moves the place down as far as it goes and holds it there from now on.
     def settle_lowest(self, place):
         self.drive(place, DOWN)
-        self.lows[place] = self.amounts[place]
-        self.highs[place] = self.amounts[place]
+        self.hold(place, self.amounts[place], self.amounts[place])
+
+
+# Of a set, the other tables that prove small places safe: for each place one with 0 there and one with the
+# bound there. More than the bound needn't be looked for: each number between what is there and what can be
+# there can be there too, and what is there is below the bound.
+class Proofs:
+
+    def __init__(self, net, bound):
+        self.net = net
+        self.own = list(net.amounts)
+        self.bound = bound
+        self.shown = []
+
+    # True if the small place is safe.
+    def prove(self, place):
+        if not self.net.is_free(place):
+            return False
+        return self.show(place, 0) and self.show(place, self.bound)
+
+    # Each begins at the table itself, to differ from it at few places: then it often lasts when one is
+    # published.
+    def show(self, place, goal):
+        self.net.go_to(self.own)
+        got_there = self.net.bring_within(place, goal, goal)
+        self.net.release(place)
+        self.shown.append((place, goal, list(self.net.amounts)))
+        return got_there
+
+    # Takes the place out of the set if all that was proved can be proved without it. True if so.
+    def publish(self, place):
+        lasting = []
+        for small, goal, amounts in self.shown:
+            lasts = amounts[place] == self.own[place]
+            mended = amounts if lasts else self.without(place, small, goal, amounts)
+            if mended is None:
+                return False
+            lasting.append((small, goal, mended))
+        self.shown = lasting
+        self.net.hold(place, self.own[place], self.own[place])
+        return True
+
+    # An other table with the goal still at the small place, but with the table's own number at the place.
+    def without(self, place, small, goal, amounts):
+        self.net.go_to(amounts)
+        self.net.hold(small, goal, goal)
+        got_there = self.net.bring_within(place, self.own[place], self.own[place])
+        self.net.release(small)
+        self.net.release(place)
+        return list(self.net.amounts) if got_there else None

@@ -1,25 +1,32 @@
-"""The calls on an object that holds a table: begin, value, small, range and other."""
+"""The calls on an object that holds a table: begin, value, small, range, other, safe, thin, best and text."""
 
-from withheld.nets import DOWN, UP, Net
+from withheld.nets import DOWN, UP, Net, Proofs
 
 BEGIN = 0
 VALUE = 1
 SMALL = 2
 RANGE = 3
 OTHER = 4
+SAFE = 5
+THIN = 6
+BEST = 7
+TEXT = 8
 
 # By a call's number: how many whole numbers, then how many lists of them, are handed in with it.
-SHAPES = {0: (2, 2), 1: (1, 0), 2: (1, 0), 3: (1, 1), 4: (3, 1)}
+SHAPES = {0: (2, 2), 1: (1, 0), 2: (1, 0), 3: (1, 1), 4: (3, 1), 5: (1, 1), 6: (1, 1), 7: (1, 0), 8: (0, 1)}
 
 WRONG_LIST = -1
 OUT_OF_BOUNDS = -2
 NO_PLACE = -4
+NOT_GOOD = -5
+TOO_MANY_PLACES = -6
 NO_TABLE = -9
 
 MOST_LINES = 16
 MOST_COUNT = 1000000
 LEAST_BOUND = 2
 MOST_BOUND = 1000
+MOST_BEST_PLACES = 12
 
 
 class Table:
@@ -38,6 +45,9 @@ class Table:
             if blank == 1:
                 self.blank_places[place] = True
 
+    def all_places(self):
+        return list(range(len(self.amounts)))
+
     def cell_places(self):
         width = self.columns + 1
         return [place for place in range(self.rows * width) if place % width != self.columns]
@@ -45,10 +55,25 @@ class Table:
     def has_place(self, place):
         return place < len(self.amounts)
 
+    def is_small(self, place, bound):
+        return 1 <= self.amounts[place] < bound
+
+    def small_places(self, bound):
+        return [place for place in self.all_places() if self.is_small(place, bound)]
+
     # A blank cell can't move though it is hidden: everybody knows that it is 0.
-    def net(self, hidden):
-        free = [place for place in hidden if place not in self.blank_places]
-        return Net(self.rows, self.columns, self.amounts, free)
+    def movable(self, places):
+        return [place for place in places if place not in self.blank_places]
+
+    def make_net(self, hidden):
+        return Net(self.rows, self.columns, self.amounts, self.movable(hidden))
+
+    # True if one of the hidden places, none of them blank, is the only one in its row or column: what is
+    # published there tells what it is.
+    def has_lone_place(self, hidden):
+        rows = [place // (self.columns + 1) for place in hidden]
+        columns = [place % (self.columns + 1) for place in hidden]
+        return 1 in [rows.count(row) for row in rows] or 1 in [columns.count(column) for column in columns]
 
 
 class CallReader:
@@ -102,6 +127,10 @@ def is_set(table, numbers):
     return True
 
 
+def is_bound(number):
+    return LEAST_BOUND <= number <= MOST_BOUND
+
+
 def value_answer(table, place):
     if not table.has_place(place):
         return [NO_PLACE]
@@ -109,9 +138,9 @@ def value_answer(table, place):
 
 
 def small_answer(table, bound):
-    if not LEAST_BOUND <= bound <= MOST_BOUND:
+    if not is_bound(bound):
         return [OUT_OF_BOUNDS]
-    return [0] + [place for place, amount in enumerate(table.amounts) if 1 <= amount < bound]
+    return [0] + table.small_places(bound)
 
 
 def range_answer(table, place, hidden):
@@ -119,7 +148,7 @@ def range_answer(table, place, hidden):
         return [WRONG_LIST]
     if not table.has_place(place):
         return [NO_PLACE]
-    net = table.net(hidden)
+    net = table.make_net(hidden)
     net.drive(place, DOWN)
     least = net.amounts[place]
     if net.drive(place, UP):
@@ -134,7 +163,7 @@ def other_answer(table, place, least, most, hidden):
         return [NO_PLACE]
     if least > most:
         return [0]
-    net = table.net(hidden)
+    net = table.make_net(hidden)
     if not net.bring_within(place, least, most):
         return [0]
     cells = table.cell_places()
@@ -142,6 +171,89 @@ def other_answer(table, place, least, most, hidden):
     for cell in cells:
         net.settle_lowest(cell)
     return [1] + [net.amounts[cell] for cell in cells]
+
+
+# None if the set that the proofs are of is good.
+def lowest_unsafe(table, proofs):
+    for place in table.small_places(proofs.bound):
+        if not proofs.prove(place):
+            return place
+    return None
+
+
+def safe_answer(table, bound, hidden):
+    if not is_set(table, hidden):
+        return [WRONG_LIST]
+    if not is_bound(bound):
+        return [OUT_OF_BOUNDS]
+    unsafe = lowest_unsafe(table, Proofs(table.make_net(hidden), bound))
+    return [1] if unsafe is None else [0, unsafe]
+
+
+def thin_answer(table, bound, hidden):
+    if not is_set(table, hidden):
+        return [WRONG_LIST]
+    if not is_bound(bound):
+        return [OUT_OF_BOUNDS]
+    proofs = Proofs(table.make_net(hidden), bound)
+    if lowest_unsafe(table, proofs) is not None:
+        return [NOT_GOOD]
+    left = []
+    for place in hidden:
+        if table.is_small(place, bound) or not proofs.publish(place):
+            left.append(place)
+    return [0] + left
+
+
+def with_one_more(sets, places):
+    longer = []
+    for chosen in sets:
+        for place in places:
+            if len(chosen) == 0 or place > chosen[-1]:
+                longer.append(chosen + [place])
+    return longer
+
+
+# A lone place is small and isn't safe, or it is hidden in vain, so that no best set has one.
+def may_be_best(table, bound, hidden):
+    if table.has_lone_place(hidden):
+        return False
+    return lowest_unsafe(table, Proofs(table.make_net(hidden), bound)) is None
+
+
+# Blank cells are no part of it, for they are never hidden but in vain. It ends, for the set of all other
+# places is good.
+def best_set(table, bound):
+    needed = table.small_places(bound)
+    spare = [place for place in table.movable(table.all_places()) if place not in needed]
+    level = [[]]
+    while True:
+        for added in sorted(level, key=lambda places: (sum([table.amounts[place] for place in places]), places)):
+            hidden = sorted(needed + added)
+            if may_be_best(table, bound, hidden):
+                return hidden
+        level = with_one_more(level, spare)
+
+
+def best_answer(table, bound):
+    if not is_bound(bound):
+        return [OUT_OF_BOUNDS]
+    if len(table.amounts) > MOST_BEST_PLACES:
+        return [TOO_MANY_PLACES]
+    return [0] + best_set(table, bound)
+
+
+def text_answer(table, hidden):
+    if not is_set(table, hidden):
+        return [WRONG_LIST]
+    words = [str(amount) for amount in table.amounts]
+    for place in hidden:
+        words[place] = "."
+    for place in table.blank_places:
+        words[place] = "-"
+    width = table.columns + 1
+    lines = [" ".join(words[start:start + width]) + "\n" for start in range(0, len(words), width)]
+    return [0] + [ord(sign) for sign in "".join(lines)]
 
 
 # The object that the calls are made on.
@@ -168,7 +280,15 @@ class Holder:
             return small_answer(self.table, numbers[0])
         if call == RANGE:
             return range_answer(self.table, numbers[0], lists[0])
-        return other_answer(self.table, numbers[0], numbers[1], numbers[2], lists[0])
+        if call == OTHER:
+            return other_answer(self.table, numbers[0], numbers[1], numbers[2], lists[0])
+        if call == SAFE:
+            return safe_answer(self.table, numbers[0], lists[0])
+        if call == THIN:
+            return thin_answer(self.table, numbers[0], lists[0])
+        if call == BEST:
+            return best_answer(self.table, numbers[0])
+        return text_answer(self.table, lists[0])
 
 
 def answers(calls):
